@@ -1,0 +1,1 @@
+"""Points of the plane with whole-number coordinates, and nothing but exact answers."""

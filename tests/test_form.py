@@ -1,0 +1,72 @@
+"""The package's form: it imports, prints and reads nothing, and keeps to the sizes and signs it may have."""
+
+import ast
+import builtins
+import contextlib
+import io
+import os
+import unittest
+
+import exactplane
+from exactplane import plane
+
+FOLDER = os.path.dirname(os.path.abspath(exactplane.__file__))
+ALLOWED_NAMES = ("abs", "all", "any", "divmod", "enumerate", "len", "list", "max", "min", "range", "reversed", "sorted",
+                 "sum", "tuple", "zip", "True", "False", "None")
+
+
+def sources():
+    for name in sorted(os.listdir(FOLDER)):
+        if name != "__pycache__":
+            with open(os.path.join(FOLDER, name), encoding="utf-8") as file:
+                yield name, file.read()
+
+
+class FormTest(unittest.TestCase):
+    def test_only_python_files(self):
+        names = [name for name, text in sources()]
+        self.assertIn("__init__.py", names)
+        self.assertIn("plane.py", names)
+        self.assertEqual([name for name in names if not name.endswith(".py")], [])
+
+    def test_signs_and_sizes(self):
+        for name, text in sources():
+            self.assertTrue(all(sign == "\n" or " " <= sign <= "~" for sign in text), name)
+            lines = text.splitlines()
+            self.assertLessEqual(len(lines), 400, name)
+            self.assertLessEqual(max(len(line) for line in lines), 120, name)
+
+    def test_functions_are_small(self):
+        for name, text in sources():
+            for node in ast.walk(ast.parse(text)):
+                if isinstance(node, ast.FunctionDef):
+                    self.assertLessEqual(node.end_lineno - node.lineno + 1, 40, node.name)
+
+    def test_nothing_is_imported(self):
+        for name, text in sources():
+            for node in ast.walk(ast.parse(text)):
+                self.assertNotIsInstance(node, (ast.Import, ast.ImportFrom), name)
+
+    def test_no_floats_and_no_other_names_of_python(self):
+        builtin_names = dir(builtins)
+        for name, text in sources():
+            for node in ast.walk(ast.parse(text)):
+                if isinstance(node, ast.Name) and node.id in builtin_names:
+                    self.assertIn(node.id, ALLOWED_NAMES, name)
+                self.assertNotIsInstance(node, ast.Div, name)
+                self.assertFalse(isinstance(node, ast.Constant) and isinstance(node.value, float), name)
+
+    def test_arguments_are_called_as_told(self):
+        self.assertEqual(plane.side(abc=[0, 0, 1, 0, 0, 1]), [1])
+        self.assertEqual(plane.meet(abcd=[0, 0, 1, 0, 0, 0, 0, 1]), [2])
+
+    def test_nothing_is_printed(self):
+        out = io.StringIO()
+        with contextlib.redirect_stdout(out), contextlib.redirect_stderr(out):
+            plane.side([0, 0, 1, 0, 0, 1])
+            plane.meet([0, 0, 1, 0, 0, 0, 0, 1])
+        self.assertEqual(out.getvalue(), "")
+
+
+if __name__ == "__main__":
+    unittest.main()
