@@ -1,5 +1,7 @@
 """The calls of exactplane: each takes lists of whole numbers and answers one list of whole numbers."""
 
+MOST_POINTS = 4096
+
 
 def side(abc):
     """On which side of the line from a to b the point c lies: [1], [0] or [-1]."""
@@ -20,9 +22,42 @@ def meet(abcd):
     return [meet_off_one_line(seen_from_ab, seen_from_cd)]
 
 
+def hull(n, p):
+    """The corners of the smallest convex area that has all n points: how many, then they; or [-2]."""
+    if not is_number_of_points(n):
+        return [-2]
+    corners = corners_of(points_in(n, p))
+    answer = [len(corners)]
+    for corner in corners:
+        answer.extend(corner)
+    return answer
+
+
+def area(n, p):
+    """0 and twice the area of the ring of n points, above 0 where it goes counterclockwise; or [-2]."""
+    if not is_number_of_points(n):
+        return [-2]
+    twice = 0
+    for place in range(n):
+        start = point_at(p, place)
+        end = point_at(p, (place + 1) % n)
+        twice = twice + start[0] * end[1] - start[1] * end[0]
+    return [0, twice]
+
+
+def is_number_of_points(n):
+    """Whether n points may be handed in."""
+    return n >= 1 and n <= MOST_POINTS
+
+
 def point_at(numbers, place):
     """The point at a place, counted from 0, of a list that has two numbers for each point."""
     return (numbers[2 * place], numbers[2 * place + 1])
+
+
+def points_in(n, numbers):
+    """The n points of a list that has two numbers for each point."""
+    return [point_at(numbers, place) for place in range(n)]
 
 
 def turn(a, b, c):
@@ -61,3 +96,26 @@ def meet_off_one_line(seen_from_ab, seen_from_cd):
     if 0 in seen_from_ab or 0 in seen_from_cd:
         return 2
     return 1
+
+
+def corners_of(points):
+    """The corners of the points' hull, counterclockwise from the one with the smallest x, of these the smallest y."""
+    in_order = sorted(set(points))
+    there = bend_left(in_order)
+    back = bend_left(list(reversed(in_order)))
+    # Both ways have the first and the last point, which may be one and the same: those of the way there stay.
+    return there + back[1:-1]
+
+
+def bend_left(points):
+    """The corners on the way from the first point to the last that has no point to its right.
+
+    The points come in the order of the pairs, or in the reverse, each once.
+    """
+    way = []
+    for point in points:
+        # A turn of 0 goes too: a point between two others on a line is no corner.
+        while len(way) > 1 and turn(way[-2], way[-1], point) <= 0:
+            way.pop()
+        way.append(point)
+    return way

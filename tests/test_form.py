@@ -11,8 +11,8 @@ import exactplane
 from exactplane import plane
 
 FOLDER = os.path.dirname(os.path.abspath(exactplane.__file__))
-ALLOWED_NAMES = ("abs", "all", "any", "divmod", "enumerate", "len", "list", "max", "min", "range", "reversed", "sorted",
-                 "sum", "tuple", "zip", "True", "False", "None")
+ALLOWED_NAMES = ("abs", "all", "any", "divmod", "enumerate", "len", "list", "max", "min", "range", "reversed", "set",
+                 "sorted", "sum", "tuple", "zip", "True", "False", "None")
 
 
 def sources():
@@ -56,15 +56,48 @@ class FormTest(unittest.TestCase):
                 self.assertNotIsInstance(node, ast.Div, name)
                 self.assertFalse(isinstance(node, ast.Constant) and isinstance(node.value, float), name)
 
+    def test_sets_are_only_sorted(self):
+        for name, text in sources():
+            tree = ast.parse(text)
+            for node in ast.walk(tree):
+                self.assertNotIsInstance(node, (ast.Set, ast.SetComp), name)
+            within = [node.args[0] for node in ast.walk(tree)
+                      if isinstance(node, ast.Call) and isinstance(node.func, ast.Name) and node.func.id == "sorted"]
+            walked = [node.func for node in within if isinstance(node, ast.Call)]
+            for node in ast.walk(tree):
+                if isinstance(node, ast.Name) and node.id == "set":
+                    self.assertIn(node, walked, name)
+
+    def test_names_begin_with_a_letter(self):
+        for name, text in sources():
+            for node in ast.walk(ast.parse(text)):
+                for field in ("id", "attr", "arg"):
+                    self.assertFalse(str(getattr(node, field, "")).startswith("_"), name)
+                if isinstance(node, ast.FunctionDef):
+                    self.assertFalse(node.name.startswith("_"), name)
+
+    def test_nothing_is_kept_at_the_top(self):
+        for name, text in sources():
+            for node in ast.parse(text).body:
+                if isinstance(node, ast.Assign):
+                    self.assertIsInstance(node.value, ast.Constant, name)
+            for node in ast.walk(ast.parse(text)):
+                self.assertNotIsInstance(node, (ast.Global, ast.Nonlocal), name)
+
     def test_arguments_are_called_as_told(self):
         self.assertEqual(plane.side(abc=[0, 0, 1, 0, 0, 1]), [1])
         self.assertEqual(plane.meet(abcd=[0, 0, 1, 0, 0, 0, 0, 1]), [2])
+        self.assertEqual(plane.hull(n=1, p=[5, 6]), [1, 5, 6])
+        self.assertEqual(plane.area(n=3, p=[0, 0, 1, 0, 0, 1]), [0, 1])
 
     def test_nothing_is_printed(self):
         out = io.StringIO()
         with contextlib.redirect_stdout(out), contextlib.redirect_stderr(out):
             plane.side([0, 0, 1, 0, 0, 1])
             plane.meet([0, 0, 1, 0, 0, 0, 0, 1])
+            for call in (plane.hull, plane.area):
+                call(3, [0, 0, 1, 0, 0, 1])
+                call(0, [])
         self.assertEqual(out.getvalue(), "")
 
 
