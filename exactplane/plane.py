@@ -10,16 +10,7 @@ def side(abc):
 
 def meet(abcd):
     """How the segments ab and cd meet: [0], [1], [2] or [3]."""
-    a = point_at(abcd, 0)
-    b = point_at(abcd, 1)
-    c = point_at(abcd, 2)
-    d = point_at(abcd, 3)
-    seen_from_ab = (turn_sign(a, b, c), turn_sign(a, b, d))
-    seen_from_cd = (turn_sign(c, d, a), turn_sign(c, d, b))
-    # Of a and a every turn is 0, so one pair of zeros alone doesn't tell that all four lie on a line.
-    if seen_from_ab == (0, 0) and seen_from_cd == (0, 0):
-        return [meet_on_one_line(a, b, c, d)]
-    return [meet_off_one_line(seen_from_ab, seen_from_cd)]
+    return [how_they_meet(point_at(abcd, 0), point_at(abcd, 1), point_at(abcd, 2), point_at(abcd, 3))]
 
 
 def hull(n, p):
@@ -38,11 +29,35 @@ def area(n, p):
     if not is_number_of_points(n):
         return [-2]
     twice = 0
-    for place in range(n):
-        start = point_at(p, place)
-        end = point_at(p, (place + 1) % n)
+    for edge in edges_of(points_in(n, p)):
+        start = edge[0]
+        end = edge[1]
         twice = twice + start[0] * end[1] - start[1] * end[0]
     return [0, twice]
+
+
+def within(n, p, q):
+    """[2] if q is on an edge of the ring, else [1] or [0] as it goes round q an odd number of times or not; or [-2]."""
+    if not is_number_of_points(n):
+        return [-2]
+    point = point_at(q, 0)
+    crossed = 0
+    for edge in edges_of(points_in(n, p)):
+        if is_on(edge, point):
+            return [2]
+        if is_crossed_from(edge, point):
+            crossed = crossed + 1
+    return [crossed % 2]
+
+
+def simple(n, p):
+    """[1] if the ring's edges, three at least, meet nowhere but each the next at its end, else [0]; or [-2]."""
+    if not is_number_of_points(n):
+        return [-2]
+    ring = points_in(n, p)
+    if n < 3 or len(set(ring)) < n or edges_meet(ring):
+        return [0]
+    return [1]
 
 
 def is_number_of_points(n):
@@ -60,6 +75,11 @@ def points_in(n, numbers):
     return [point_at(numbers, place) for place in range(n)]
 
 
+def edges_of(ring):
+    """The edges of a ring, each its start and its end, that from the last point to the first ahead."""
+    return [(ring[place - 1], ring[place]) for place in range(len(ring))]
+
+
 def turn(a, b, c):
     """The turn of three points."""
     return (b[0] - a[0]) * (c[1] - a[1]) - (b[1] - a[1]) * (c[0] - a[0])
@@ -73,6 +93,16 @@ def turn_sign(a, b, c):
     if amount < 0:
         return -1
     return 0
+
+
+def how_they_meet(a, b, c, d):
+    """What meet answers of the segments ab and cd."""
+    seen_from_ab = (turn_sign(a, b, c), turn_sign(a, b, d))
+    seen_from_cd = (turn_sign(c, d, a), turn_sign(c, d, b))
+    # Of a and a every turn is 0, so one pair of zeros alone doesn't tell that all four lie on a line.
+    if seen_from_ab == (0, 0) and seen_from_cd == (0, 0):
+        return meet_on_one_line(a, b, c, d)
+    return meet_off_one_line(seen_from_ab, seen_from_cd)
 
 
 def meet_on_one_line(a, b, c, d):
@@ -119,3 +149,84 @@ def bend_left(points):
             way.pop()
         way.append(point)
     return way
+
+
+def is_on(edge, point):
+    """Whether the point is on the edge."""
+    # On the edge's line points come in the order of the pairs; of a and a every turn is 0, and a alone is between.
+    return turn(edge[0], edge[1], point) == 0 and min(edge) <= point and point <= max(edge)
+
+
+def is_crossed_from(edge, point):
+    """Whether a half-line from the point, which isn't on the edge, crosses the edge."""
+    # The half-line goes towards growing x, and up by so little that all points ahead at the point's height are below.
+    start_is_above = edge[0][1] > point[1]
+    end_is_above = edge[1][1] > point[1]
+    if start_is_above == end_is_above:
+        return False
+    # An edge is ahead of what it has to its left on its way up, and to its right on its way down.
+    return (turn(edge[0], edge[1], point) > 0) == end_is_above
+
+
+def edges_meet(ring):
+    """Whether edges of a ring, all points of which are different, meet but each the next at its end."""
+    # A line sweeps over the points in the order of the pairs and keeps the edges that it crosses, from the lowest to
+    # the highest: two that cross are neighbours before they do, so that only neighbours have to be looked at.
+    crossed = []
+    for stop in stops_of(ring):
+        first = how_many_below(crossed, stop[0])
+        through = how_many_through(crossed, first, stop[0])
+        begun = edges_begun(stop)
+        # Of the point's own two edges those that don't begin end here: a third one comes through.
+        if through + len(begun) > 2:
+            return True
+        crossed = crossed[:first] + begun + crossed[first + through:]
+        if neighbours_meet(crossed, first) or neighbours_meet(crossed, first + len(begun)):
+            return True
+    return False
+
+
+def stops_of(ring):
+    """The points of a ring in the order of the pairs, each with those before and after it in the ring behind it."""
+    return sorted([(ring[place - 1], ring[place - 2], ring[place]) for place in range(len(ring))])
+
+
+def how_many_below(crossed, point):
+    """How many of the crossed edges, which are the first ones, are below the point."""
+    least = 0
+    most = len(crossed)
+    while least < most:
+        middle = (least + most) // 2
+        if turn(crossed[middle][0], crossed[middle][1], point) > 0:
+            least = middle + 1
+        else:
+            most = middle
+    return least
+
+
+def how_many_through(crossed, first, point):
+    """How many of the crossed edges, from the first that isn't below the point on, have the point."""
+    last = first
+    while last < len(crossed) and turn(crossed[last][0], crossed[last][1], point) == 0:
+        last = last + 1
+    return last - first
+
+
+def edges_begun(stop):
+    """The edges from a stop's point to those of the two others that come later, the lower edge first."""
+    later = [other for other in stop[1:] if other > stop[0]]
+    if len(later) == 2 and turn(stop[0], later[0], later[1]) < 0:
+        later.reverse()
+    return [(stop[0], other) for other in later]
+
+
+def neighbours_meet(crossed, place):
+    """Whether the crossed edge at a place and the one below it meet, but as edges that follow one another do."""
+    if place == 0 or place == len(crossed):
+        return False
+    lower = crossed[place - 1]
+    upper = crossed[place]
+    # All points of the ring are different: edges with an end in common follow one another.
+    if lower[0] in upper or lower[1] in upper:
+        return False
+    return how_they_meet(lower[0], lower[1], upper[0], upper[1]) > 0

@@ -1,6 +1,7 @@
-"""Checks that hold of every call, whatever it answers."""
+"""Checks that hold of every call, whatever it answers, and what several tests reckon with."""
 
 import sys
+from fractions import Fraction
 
 LOW = -9223372036854775808
 HIGH = 9223372036854775807
@@ -18,17 +19,22 @@ class Untouchable(list):
     append = extend = insert = pop = remove = clear = sort = reverse = refuse
 
 
-def check_call(case, call, numbers, expected):
-    """The call answers the expected list of ints, anew each time, and leaves its input alone."""
-    handed = list(numbers)
-    answer = call(handed)
+def check_lists_call(case, call, lists, expected):
+    """The call answers the expected list of ints, anew each time, and leaves the lists it takes alone."""
+    handed = [list(numbers) for numbers in lists]
+    answer = call(*handed)
     case.assertIs(type(answer), list)
     case.assertTrue(all(type(number) is int for number in answer), answer)
-    case.assertEqual(answer, expected, numbers)
-    case.assertEqual(handed, list(numbers))
-    case.assertEqual(call(Untouchable(numbers)), expected, numbers)
+    case.assertEqual(answer, expected, lists)
+    case.assertEqual(handed, [list(numbers) for numbers in lists])
+    case.assertEqual(call(*[Untouchable(numbers) for numbers in lists]), expected, lists)
     answer.append(7)
-    case.assertEqual(call(handed), expected, numbers)
+    case.assertEqual(call(*handed), expected, lists)
+
+
+def check_call(case, call, numbers, expected):
+    """The same of a call that takes one list."""
+    check_lists_call(case, call, [numbers], expected)
 
 
 def flat(points):
@@ -58,6 +64,14 @@ def other_orders(points):
     yield sorted(points, key=lambda point: (point[1], -point[0]))
 
 
+def views(points):
+    """The points turned and mirrored in all eight ways, the whole range of coordinates staying itself."""
+    for mirrored in (points, [(-1 - x, y) for x, y in points]):
+        for turned in (mirrored, [(x, -1 - y) for x, y in mirrored]):
+            yield turned
+            yield [(y, x) for x, y in turned]
+
+
 def with_few_calls_left(call):
     """What the call answers where only some calls within one another are left to it."""
     depth = 1
@@ -71,3 +85,37 @@ def with_few_calls_left(call):
         return call()
     finally:
         sys.setrecursionlimit(limit)
+
+
+def narrow(low, high, start, step, least, most):
+    """The t from low to high with least <= start + t * step <= most, as their two ends, or None."""
+    if step == 0:
+        return (low, high) if least <= start <= most else None
+    ends = sorted((Fraction(least - start, step), Fraction(most - start, step)))
+    low = max(low, ends[0])
+    high = min(high, ends[1])
+    return (low, high) if low <= high else None
+
+
+def meet_by_fractions(a, b, c, d):
+    """What meet must answer, by the t for which a + t (b - a) is in cd."""
+    if a == b:
+        if c != d:
+            return meet_by_fractions(c, d, a, b)
+        return 2 if a == c else 0
+    ux, uy = b[0] - a[0], b[1] - a[1]
+    vx, vy = d[0] - c[0], d[1] - c[1]
+    wx, wy = a[0] - c[0], a[1] - c[1]
+    bounds = [(wx * vy - wy * vx, ux * vy - uy * vx, 0, 0),
+              (wx * vx + wy * vy, ux * vx + uy * vy, 0, vx * vx + vy * vy)]
+    if c == d:
+        bounds = [(wx, ux, 0, 0), (wy, uy, 0, 0)]
+    ends = (Fraction(0), Fraction(1))
+    for bound in bounds:
+        ends = narrow(*ends, *bound)
+        if ends is None:
+            return 0
+    if ends[0] < ends[1]:
+        return 3
+    common = (a[0] + ends[0] * ux, a[1] + ends[0] * uy)
+    return 2 if common in (a, b, c, d) else 1

@@ -56,17 +56,17 @@ class FormTest(unittest.TestCase):
                 self.assertNotIsInstance(node, ast.Div, name)
                 self.assertFalse(isinstance(node, ast.Constant) and isinstance(node.value, float), name)
 
-    def test_sets_are_only_sorted(self):
+    def test_sets_are_only_sorted_or_counted(self):
         for name, text in sources():
             tree = ast.parse(text)
             for node in ast.walk(tree):
                 self.assertNotIsInstance(node, (ast.Set, ast.SetComp), name)
-            within = [node.args[0] for node in ast.walk(tree)
-                      if isinstance(node, ast.Call) and isinstance(node.func, ast.Name) and node.func.id == "sorted"]
-            walked = [node.func for node in within if isinstance(node, ast.Call)]
+            calls = [node for node in ast.walk(tree) if isinstance(node, ast.Call) and isinstance(node.func, ast.Name)]
+            around = [node for node in calls if node.func.id in ("sorted", "len") and not node.keywords]
+            allowed = [node.args[0].func for node in around if isinstance(node.args[0], ast.Call)]
             for node in ast.walk(tree):
                 if isinstance(node, ast.Name) and node.id == "set":
-                    self.assertIn(node, walked, name)
+                    self.assertIn(node, allowed, name)
 
     def test_names_begin_with_a_letter(self):
         for name, text in sources():
@@ -89,15 +89,19 @@ class FormTest(unittest.TestCase):
         self.assertEqual(plane.meet(abcd=[0, 0, 1, 0, 0, 0, 0, 1]), [2])
         self.assertEqual(plane.hull(n=1, p=[5, 6]), [1, 5, 6])
         self.assertEqual(plane.area(n=3, p=[0, 0, 1, 0, 0, 1]), [0, 1])
+        self.assertEqual(plane.within(n=3, p=[0, 0, 4, 0, 0, 4], q=[1, 1]), [1])
+        self.assertEqual(plane.simple(n=3, p=[0, 0, 1, 0, 0, 1]), [1])
 
     def test_nothing_is_printed(self):
         out = io.StringIO()
         with contextlib.redirect_stdout(out), contextlib.redirect_stderr(out):
             plane.side([0, 0, 1, 0, 0, 1])
             plane.meet([0, 0, 1, 0, 0, 0, 0, 1])
-            for call in (plane.hull, plane.area):
+            for call in (plane.hull, plane.area, plane.simple):
                 call(3, [0, 0, 1, 0, 0, 1])
                 call(0, [])
+            plane.within(3, [0, 0, 1, 0, 0, 1], [5, 5])
+            plane.within(0, [], [5, 5])
         self.assertEqual(out.getvalue(), "")
 
 

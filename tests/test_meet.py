@@ -2,44 +2,9 @@
 
 import itertools
 import unittest
-from fractions import Fraction
 
 from exactplane.plane import meet
-from handed_in import HIGH, LOW, check_call
-
-
-def narrow(low, high, start, step, least, most):
-    """The t from low to high with least <= start + t * step <= most, as their two ends, or None."""
-    if step == 0:
-        return (low, high) if least <= start <= most else None
-    ends = sorted((Fraction(least - start, step), Fraction(most - start, step)))
-    low = max(low, ends[0])
-    high = min(high, ends[1])
-    return (low, high) if low <= high else None
-
-
-def meet_by_fractions(a, b, c, d):
-    """What meet must answer, by the t for which a + t (b - a) is in cd."""
-    if a == b:
-        if c != d:
-            return meet_by_fractions(c, d, a, b)
-        return 2 if a == c else 0
-    ux, uy = b[0] - a[0], b[1] - a[1]
-    vx, vy = d[0] - c[0], d[1] - c[1]
-    wx, wy = a[0] - c[0], a[1] - c[1]
-    bounds = [(wx * vy - wy * vx, ux * vy - uy * vx, 0, 0),
-              (wx * vx + wy * vy, ux * vx + uy * vy, 0, vx * vx + vy * vy)]
-    if c == d:
-        bounds = [(wx, ux, 0, 0), (wy, uy, 0, 0)]
-    ends = (Fraction(0), Fraction(1))
-    for bound in bounds:
-        ends = narrow(*ends, *bound)
-        if ends is None:
-            return 0
-    if ends[0] < ends[1]:
-        return 3
-    common = (a[0] + ends[0] * ux, a[1] + ends[0] * uy)
-    return 2 if common in (a, b, c, d) else 1
+from handed_in import HIGH, LOW, check_call, meet_by_fractions
 
 
 class MeetTest(unittest.TestCase):
