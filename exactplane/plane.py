@@ -55,7 +55,12 @@ def simple(n, p):
     if not is_number_of_points(n):
         return [-2]
     ring = points_in(n, p)
-    if n < 3 or len(set(ring)) < n or edges_meet(ring):
+    different = len(set(ring))
+    # Of three equal points each edge is the point alone, and that's all that any two share, which follow one another.
+    if n == 3 and different == 1:
+        return [1]
+    # Any other equal points are shared by edges that don't follow one another, or by two that share more than a point.
+    if n < 3 or different < n or edges_meet(ring):
         return [0]
     return [1]
 

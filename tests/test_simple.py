@@ -29,8 +29,7 @@ def pairs_of_edges(ring):
 
 def simple_by_pairs(ring):
     """What simple must answer, by looking at every two edges."""
-    # The edges of three equal points share no more than edges that follow one another may, but they're no ring.
-    if len(ring) < 3 or len(set(ring)) == 1:
+    if len(ring) < 3:
         return 0
     for first, second, follows in pairs_of_edges(ring):
         found = meeting(first, second)
@@ -164,9 +163,17 @@ class SimpleTest(unittest.TestCase):
         self.check([(0, 0), (4, 0), (2, 2), (1, 3), (0, 4)], 1)
 
     def test_equal_points_alone(self):
-        for size in (2, 3, 4, 5, 4096):
-            self.check([(0, 0)] * size, 0)
-            self.check([(HIGH, LOW)] * size, 0)
+        for point in ((0, 0), (-1, -1), (5, -7), (HIGH, LOW), (LOW, LOW), (HIGH, HIGH)):
+            # Each edge is the point alone, and of three edges any two follow one another.
+            self.check([point] * 3, 1)
+            for size in (1, 2, 4, 5, 6, 7, 8, 9, 12, 50):
+                self.check([point] * size, 0)
+        self.check([(5, -7)] * 4096, 0)
+
+    def test_two_equal_points_of_three(self):
+        for a, b in (((0, 0), (4, 0)), ((0, 0), (3, 1)), ((2, 5), (2, 4)), ((LOW, HIGH), (HIGH, LOW))):
+            self.check([a, a, b], 0)
+            self.check([a, b, b], 0)
 
     def test_equal_points_next_to_each_other(self):
         for ring in ([(0, 0), (4, 0), (0, 3)], SQUARE, [(0, 0), (4, 0), (4, 4), (2, 1), (0, 4)], [(0, 0), (4, 0)]):
