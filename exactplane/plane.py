@@ -1,6 +1,8 @@
 """The calls of exactplane: each takes lists of whole numbers and answers one list of whole numbers."""
 
 MOST_POINTS = 4096
+# 2 to the 128th: more than the product of any two differences of coordinates.
+FINENESS = 340282366920938463463374607431768211456
 
 
 def side(abc):
@@ -18,10 +20,7 @@ def hull(n, p):
     if not is_number_of_points(n):
         return [-2]
     corners = corners_of(points_in(n, p))
-    answer = [len(corners)]
-    for corner in corners:
-        answer.extend(corner)
-    return answer
+    return [len(corners)] + numbers_of(corners)
 
 
 def area(n, p):
@@ -65,6 +64,23 @@ def simple(n, p):
     return [1]
 
 
+def nearest(n, p):
+    """0, the places of the nearest two of n points, the smaller ahead, and the square of their distance; or [-2]."""
+    if n < 2 or not is_number_of_points(n):
+        return [-2]
+    pair = nearest_pair(points_in(n, p))
+    return [0, pair[1], pair[2], pair[0]]
+
+
+def around(n, o, p):
+    """0 and the n points in the order in which they're seen from o, counterclockwise from growing x; or [-2]."""
+    if not is_number_of_points(n):
+        return [-2]
+    middle = point_at(o, 0)
+    in_order = sorted(points_in(n, p), key=lambda point: how_it_is_seen(middle, point))
+    return [0] + numbers_of(in_order)
+
+
 def is_number_of_points(n):
     """Whether n points may be handed in."""
     return n >= 1 and n <= MOST_POINTS
@@ -80,9 +96,30 @@ def points_in(n, numbers):
     return [point_at(numbers, place) for place in range(n)]
 
 
+def numbers_of(points):
+    """The points' numbers, two for each point, one point behind another."""
+    numbers = []
+    for point in points:
+        numbers.extend(point)
+    return numbers
+
+
 def edges_of(ring):
     """The edges of a ring, each its start and its end, that from the last point to the first ahead."""
     return [(ring[place - 1], ring[place]) for place in range(len(ring))]
+
+
+def how_many_first(things, is_ahead):
+    """How many of the things are ahead, where none of these comes behind one that isn't."""
+    least = 0
+    most = len(things)
+    while least < most:
+        middle = (least + most) // 2
+        if is_ahead(things[middle]):
+            least = middle + 1
+        else:
+            most = middle
+    return least
 
 
 def turn(a, b, c):
@@ -198,15 +235,7 @@ def stops_of(ring):
 
 def how_many_below(crossed, point):
     """How many of the crossed edges, which are the first ones, are below the point."""
-    least = 0
-    most = len(crossed)
-    while least < most:
-        middle = (least + most) // 2
-        if turn(crossed[middle][0], crossed[middle][1], point) > 0:
-            least = middle + 1
-        else:
-            most = middle
-    return least
+    return how_many_first(crossed, lambda edge: turn(edge[0], edge[1], point) > 0)
 
 
 def how_many_through(crossed, first, point):
@@ -235,3 +264,91 @@ def neighbours_meet(crossed, place):
     if lower[0] in upper or lower[1] in upper:
         return False
     return how_they_meet(lower[0], lower[1], upper[0], upper[1]) > 0
+
+
+def nearest_pair(points):
+    """The two points that nearest answers, as the square of their distance and their places, the smaller ahead."""
+    # So written, the pair that is asked is the smallest of all pairs.
+    equal = equal_pairs(points)
+    if len(equal) > 0:
+        return min(equal)
+    return nearest_of_different(points)
+
+
+def equal_pairs(points):
+    """Of equal points the first with each of the others, written as nearest_pair does."""
+    first_places = {}
+    pairs = []
+    for place in range(len(points)):
+        first = first_places.setdefault(points[place], place)
+        if first < place:
+            pairs.append((0, first, place))
+    return pairs
+
+
+def nearest_of_different(points):
+    """The nearest two of points that are all different, written as nearest_pair does."""
+    # A line sweeps upwards over the points and keeps, from left to right, those that aren't farther below it than the
+    # nearest two so far are apart. As no two of these are nearer to each other, only few are near the next point.
+    spots = [(points[place][0], points[place][1], place) for place in range(len(points))]
+    upwards = sorted(spots, key=lambda spot: spot[1])
+    best = pair_of(upwards[0], upwards[1])
+    kept = []
+    lowest = 0
+    for spot in upwards:
+        while square(spot[1] - upwards[lowest][1]) > best[0]:
+            kept.pop(how_many_left(kept, upwards[lowest]))
+            lowest = lowest + 1
+        left = how_many_left(kept, spot)
+        near = spots_near(kept, left, spot, best[0])
+        best = min([best] + [pair_of(spot, other) for other in near])
+        kept.insert(left, spot)
+    return best
+
+
+def pair_of(spot, other):
+    """Two spots, which are x, y and the place of a point each, written as nearest_pair does."""
+    squared = square(spot[0] - other[0]) + square(spot[1] - other[1])
+    return (squared, min(spot[2], other[2]), max(spot[2], other[2]))
+
+
+def square(number):
+    """The number times itself."""
+    return number * number
+
+
+def how_many_left(kept, spot):
+    """How many of the kept spots, which are the first ones, come before the spot on the way from left to right."""
+    return how_many_first(kept, lambda other: other < spot)
+
+
+def spots_near(kept, left, spot, most):
+    """The kept spots to the left and right of the spot, until the square of how far it is across is above most."""
+    near = []
+    place = left
+    # One that is just as far is among them: it may make a pair with smaller places.
+    while place < len(kept) and square(kept[place][0] - spot[0]) <= most:
+        near.append(kept[place])
+        place = place + 1
+    place = left - 1
+    while place >= 0 and square(kept[place][0] - spot[0]) <= most:
+        near.append(kept[place])
+        place = place - 1
+    return near
+
+
+def how_it_is_seen(middle, point):
+    """What points are sorted by to be in the order in which they're seen: a quarter, the steepness there, how far."""
+    across = point[0] - middle[0]
+    up = point[1] - middle[1]
+    if across == 0 and up == 0:
+        return (0, 0, 0)
+    quarter = 1
+    # The first quarter has the direction of growing x, but not that of growing y; the others are turned back to it.
+    while across <= 0 or up < 0:
+        before = across
+        across = up
+        up = -before
+        quarter = quarter + 1
+    # Two steepnesses that aren't equal differ by more than one part in FINENESS, so rounding down keeps them apart.
+    return (quarter, up * FINENESS // across, across)

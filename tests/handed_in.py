@@ -1,5 +1,6 @@
 """Checks that hold of every call, whatever it answers, and what several tests reckon with."""
 
+import itertools
 import sys
 from fractions import Fraction
 
@@ -70,6 +71,16 @@ def views(points):
         for turned in (mirrored, [(x, -1 - y) for x, y in mirrored]):
             yield turned
             yield [(y, x) for x, y in turned]
+
+
+def scattered(size, width, seed):
+    """So many different points of a square, in an order that depends on the seed."""
+    points = list(itertools.product(range(width), repeat=2))
+    chosen = []
+    for step in range(size):
+        seed = (seed * 1103515245 + 12345) % (1 << 31)
+        chosen.append(points.pop((seed >> 8) % len(points)))
+    return chosen
 
 
 def with_few_calls_left(call):

@@ -13,6 +13,10 @@ from exactplane import plane
 FOLDER = os.path.dirname(os.path.abspath(exactplane.__file__))
 ALLOWED_NAMES = ("abs", "all", "any", "divmod", "enumerate", "len", "list", "max", "min", "range", "reversed", "set",
                  "sorted", "sum", "tuple", "zip", "True", "False", "None")
+ALLOWED_METHODS = ("append", "extend", "insert", "pop", "reverse", "setdefault")
+OTHER_FORMS = (ast.AsyncFunctionDef, ast.Assert, ast.AugAssign, ast.Await, ast.ClassDef, ast.Delete, ast.DictComp,
+               ast.GeneratorExp, ast.Is, ast.IsNot, ast.JoinedStr, ast.Match, ast.NamedExpr, ast.Raise, ast.Starred,
+               ast.Try, ast.With, ast.Yield, ast.YieldFrom)
 
 
 def sources():
@@ -68,6 +72,33 @@ class FormTest(unittest.TestCase):
                 if isinstance(node, ast.Name) and node.id == "set":
                     self.assertIn(node, allowed, name)
 
+    def test_plain_forms_alone(self):
+        for name, text in sources():
+            for node in ast.walk(ast.parse(text)):
+                self.assertNotIsInstance(node, OTHER_FORMS, name)
+                self.assertFalse(getattr(node, "decorator_list", []), name)
+                if isinstance(node, (ast.For, ast.While)):
+                    self.assertEqual(node.orelse, [], name)
+                if isinstance(node, ast.Attribute):
+                    self.assertIn(node.attr, ALLOWED_METHODS, name)
+                if isinstance(node, ast.Assign):
+                    self.assertEqual(len(node.targets), 1, name)
+                if isinstance(node, ast.comprehension):
+                    self.assertLessEqual(len(node.ifs), 1, name)
+                if isinstance(node, ast.ListComp):
+                    self.assertEqual(len(node.generators), 1, name)
+
+    def test_pythons_own_names_keep_their_meaning(self):
+        builtin_names = dir(builtins)
+        for name, text in sources():
+            for node in ast.walk(ast.parse(text)):
+                if isinstance(node, ast.Name) and isinstance(node.ctx, ast.Store):
+                    self.assertNotIn(node.id, builtin_names, name)
+                if isinstance(node, ast.arg):
+                    self.assertNotIn(node.arg, builtin_names, name)
+                if isinstance(node, ast.FunctionDef):
+                    self.assertNotIn(node.name, builtin_names, name)
+
     def test_names_begin_with_a_letter(self):
         for name, text in sources():
             for node in ast.walk(ast.parse(text)):
@@ -91,17 +122,21 @@ class FormTest(unittest.TestCase):
         self.assertEqual(plane.area(n=3, p=[0, 0, 1, 0, 0, 1]), [0, 1])
         self.assertEqual(plane.within(n=3, p=[0, 0, 4, 0, 0, 4], q=[1, 1]), [1])
         self.assertEqual(plane.simple(n=3, p=[0, 0, 1, 0, 0, 1]), [1])
+        self.assertEqual(plane.nearest(n=3, p=[0, 0, 4, 0, 0, 3]), [0, 0, 2, 9])
+        self.assertEqual(plane.around(n=2, o=[1, 0], p=[0, 0, 2, 0]), [0, 2, 0, 0, 0])
 
     def test_nothing_is_printed(self):
         out = io.StringIO()
         with contextlib.redirect_stdout(out), contextlib.redirect_stderr(out):
             plane.side([0, 0, 1, 0, 0, 1])
             plane.meet([0, 0, 1, 0, 0, 0, 0, 1])
-            for call in (plane.hull, plane.area, plane.simple):
+            for call in (plane.hull, plane.area, plane.simple, plane.nearest):
                 call(3, [0, 0, 1, 0, 0, 1])
                 call(0, [])
             plane.within(3, [0, 0, 1, 0, 0, 1], [5, 5])
             plane.within(0, [], [5, 5])
+            plane.around(3, [5, 5], [0, 0, 1, 0, 0, 1])
+            plane.around(0, [5, 5], [])
         self.assertEqual(out.getvalue(), "")
 
 

@@ -6,7 +6,7 @@ import time
 import unittest
 
 from exactplane.plane import simple, within
-from handed_in import (HIGH, LOW, check_points_call, check_refusals, flat, meet_by_fractions, views,
+from handed_in import (HIGH, LOW, check_points_call, check_refusals, flat, meet_by_fractions, scattered, views,
                        with_few_calls_left)
 
 SQUARE = [(0, 0), (4, 0), (4, 4), (0, 4)]
@@ -46,16 +46,6 @@ def less_tangled(ring):
         if 1 < other - place < len(ring) - 1 and meeting(first, second) > 0:
             return ring[:place + 1] + ring[place + 1:other + 1][::-1] + ring[other + 1:]
     return None
-
-
-def scattered(size, width, seed):
-    """So many different points of a square, in an order that depends on the seed."""
-    points = list(itertools.product(range(width), repeat=2))
-    chosen = []
-    for step in range(size):
-        seed = (seed * 1103515245 + 12345) % (1 << 31)
-        chosen.append(points.pop((seed >> 8) % len(points)))
-    return chosen
 
 
 def stretched(ring, width):
